@@ -127,3 +127,19 @@ func TestJ2Long(t *testing.T) {
 	deep := nested("[{", maxDepth)
 	checkPrint(t, strings.Repeat(" ", maxText-len(deep))+deep, deep)
 }
+
+// Quote tells what Print tells of a string.
+func TestJ2Quote(t *testing.T) {
+	for n := range 0x250 {
+		for _, s := range []string{"", string(rune(n)), "a" + string(rune(n)) + "\U0001F600", string(rune(n)) + "\"\\"} {
+			quoted := json.Quote(s)
+			checkPrint(t, quoted, quoted)
+			if s != "" {
+				checkNodes(t, quoted, api.Node{Kind: 3, Text: s})
+			}
+		}
+	}
+	if got := json.Quote(""); got != `""` {
+		t.Errorf("Quote of nothing = %q", got)
+	}
+}

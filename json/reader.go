@@ -41,9 +41,9 @@ func (r *reader) readValue(key string) int {
 func (r *reader) readPlain(node *api.Node) {
 	switch b := r.peek(); {
 	case b == '"':
-		node.Kind, node.Text = kindString, r.readString()
+		node.Kind, node.Text = KindString, r.readString()
 	case b == '-' || isDigit(b):
-		node.Kind, node.Num = kindInteger, r.readInteger()
+		node.Kind, node.Num = KindInteger, r.readInteger()
 	case b == 't' || b == 'f' || b == 'n':
 		node.Kind, node.Num = r.readWord()
 	default:
@@ -52,12 +52,12 @@ func (r *reader) readPlain(node *api.Node) {
 }
 
 func (r *reader) readArray(n int) {
-	r.nodes[n].Kind = kindArray
+	r.nodes[n].Kind = KindArray
 	r.readList(']', func() { r.readKid(n, "") })
 }
 
 func (r *reader) readObject(n int) {
-	r.nodes[n].Kind = kindObject
+	r.nodes[n].Kind = KindObject
 	names := map[string]struct{}{}
 	r.readList('}', func() {
 		name := r.readName(names)
@@ -116,11 +116,11 @@ func (r *reader) readWord() (int, int) {
 	start := r.at
 	switch r.takeAll(isSmall) {
 	case "null":
-		return kindNull, 0
+		return KindNull, 0
 	case "false":
-		return kindTruth, 0
+		return KindTruth, 0
 	case "true":
-		return kindTruth, 1
+		return KindTruth, 1
 	}
 	throw(api.ErrText, start)
 	return 0, 0

@@ -14,20 +14,27 @@ type writer struct {
 	out   []byte
 }
 
+// Quote tells the one form of a string; other packages build texts by it. The string is right UTF-8.
+func Quote(s string) string {
+	w := &writer{}
+	w.writeString(s)
+	return string(w.out)
+}
+
 func (w *writer) writeNode(n int) {
 	node := w.nodes[n]
 	switch node.Kind {
-	case kindNull:
+	case KindNull:
 		w.out = append(w.out, "null"...)
-	case kindTruth:
+	case KindTruth:
 		w.out = strconv.AppendBool(w.out, node.Num == 1)
-	case kindInteger:
+	case KindInteger:
 		w.out = strconv.AppendInt(w.out, int64(node.Num), 10)
-	case kindString:
+	case KindString:
 		w.writeString(node.Text)
-	case kindArray:
+	case KindArray:
 		w.writeList('[', node.Kids, w.writeNode, ']')
-	case kindObject:
+	case KindObject:
 		w.writeList('{', w.byName(node.Kids), w.writeMember, '}')
 	}
 }
