@@ -78,7 +78,7 @@ func (s *set) readKey(object api.Node) (api.Errno, int) {
 	if object.Kind != json.KindObject {
 		return api.ErrKind, object.At
 	}
-	if len(s.keys) >= maxKeys {
+	if len(s.keys) >= MaxKeys {
 		return api.ErrMany, object.At
 	}
 	var key api.Key
