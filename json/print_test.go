@@ -143,3 +143,19 @@ func TestJ2Quote(t *testing.T) {
 		t.Errorf("Quote of nothing = %q", got)
 	}
 }
+
+// Form tells of each node what Print tells of its text alone.
+func TestJ2Form(t *testing.T) {
+	texts := []string{"null", ` { "d" : [ true , -0 ] , "c" : { } } `, `"\u0061\/"`, "[ ]", "-7", "false", `{"b":{"z":[[1, 2]],"y":"\n"},"a":null}`}
+	whole := "[" + strings.Join(texts, ",") + "]"
+	nodes, _, _ := json.Parse(whole)
+	for i, kid := range nodes[0].Kids {
+		want, _, _ := json.Print(texts[i])
+		if got := json.Form(nodes, kid); got != want {
+			t.Errorf("Form of node %d = %q, want %q", kid, got, want)
+		}
+	}
+	if want, _, _ := json.Print(whole); json.Form(nodes, 0) != want {
+		t.Errorf("Form of node 0 = %q, want %q", json.Form(nodes, 0), want)
+	}
+}
